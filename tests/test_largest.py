@@ -1,0 +1,97 @@
+"""The largest cases that the document allows."""
+
+import inspect
+import sys
+import unittest
+
+from helper import Slow, padded, text
+from whatstands.moot import ground, kinds
+
+NAMES = ("a", "b", "bb", "c", "d", "e", "f", "g", "h", "i")
+RULES = [f"rule {name}: => {name}" for name in NAMES]
+ALL_BUT_A = [0, 1022, 0, 1, 1, 1, 1, 1, 1, 1, 1, 1]
+
+
+def long_chain():
+    """64 laws, 10 rules, 64 atoms: the last rule goes against the first by a chain told backwards."""
+    chain = [f"law l{k}: p{k} -> p{k + 1}" for k in range(52, -1, -1)]
+    ends = ["law begin: i -> p0", "law end: p53 -> ~a", "weigh i > a"]
+    idle = [f"law m{k}: p{k}, ~p{k} -> p{k + 2}" for k in range(9)]
+    return RULES + chain + ends + idle
+
+
+def broad_laws():
+    """Names of 15 bytes and bodies of 6 literals; only all ten rules together clash."""
+    atoms = [f"p{k:02}-234567890ab" for k in range(53)]
+    laws = []
+    for k in range(48):
+        body = ", ".join(atoms[k:k + 5] + [NAMES[k % 10]])
+        laws.append(f"law l{k:02}-234567890ab: {body} -> {atoms[k + 5]}")
+    begin = [f"law begin{k}: -> {atom}" for k, atom in enumerate(atoms[:5])]
+    return RULES + laws[::-1] + begin + [f"law end: {atoms[52]} -> ~a", "weigh i > a"]
+
+
+class LargestTest(unittest.TestCase):
+    def check_long_chain(self, t):
+        self.assertEqual(ground(t), ALL_BUT_A)
+        self.assertEqual(kinds(1022, t), [0, 127])
+        self.assertEqual(kinds(1023, t), [0, 0])
+        self.assertEqual(kinds(1, t), [0, 1])
+        self.assertEqual(kinds(512, t), [0, 3])
+        self.assertEqual(kinds(1024, t), [-1])
+
+    def test_most_laws_rules_and_atoms(self):
+        read = Slow(text(*long_chain()))
+        self.assertEqual((len(read.laws), len(read.rules), len(read.atoms)), (64, 10, 64))
+        self.check_long_chain(text(*long_chain()))
+
+    def test_most_bytes(self):
+        t = padded(long_chain() + ["weigh i > b", "weigh i > bb"], "i", "b", 8192)
+        self.assertEqual(len(t), 8192)
+        self.check_long_chain(t)
+
+    def test_one_more_of_anything(self):
+        lines = long_chain()
+        for more in ("law last: -> ~p0", "rule j: => ~a", "law last: -> q"):
+            self.assertEqual(Slow(text(*lines, more)).fault[0], 4)
+            self.assertEqual(ground(text(*lines, more)), [-6])
+        self.assertEqual(ground(text(*lines[:-1], "law last: p0 -> q")), [-6])
+        self.assertEqual(ground(text(*lines[:-1], "law last: p0 -> ~p9")), [0, 511] + [1] * 9 + [0])
+
+    def test_broad_laws(self):
+        t = text(*broad_laws())
+        self.assertGreater(len(t), 6144)
+        self.assertEqual(ground(t), [0, 512] + [0] * 9 + [1])
+        self.assertEqual(kinds(512, t), [0, 103])
+        self.assertEqual(kinds(1023, t), [0, 0])
+        self.assertEqual(kinds(0, t), [0, 3])
+        self.assertEqual(kinds(511, t), [0, 1])
+        self.assertEqual(kinds(513, t), [0, 1])
+        for i in range(9):
+            self.assertEqual(kinds(1023 - (1 << i), t), [0, 31])
+
+    def test_many_preferred_sets(self):
+        heads = [sign + atom for atom in "pqsuv" for sign in ("", "~")]
+        t = text(*[f"rule {name}: => {head}" for name, head in zip(NAMES, heads)])
+        self.assertEqual(ground(t), [0] * 12)
+        self.assertEqual(kinds(0, t), [0, 103])
+        self.assertEqual(kinds(0b0101010101, t), [0, 31])
+        self.assertEqual(kinds(0b1001100110, t), [0, 31])
+        self.assertEqual(kinds(0b0001100110, t), [0, 7])
+        self.assertEqual(kinds(0b0011100110, t), [0, 0])
+
+    def test_calls_do_not_go_deep(self):
+        t = padded(long_chain() + ["weigh i > b", "weigh i > bb"], "i", "b", 8192)
+        limit = sys.getrecursionlimit()
+        sys.setrecursionlimit(len(inspect.stack()) + 40)
+        try:
+            told = ground(t)
+            total = kinds(1022, t)
+        finally:
+            sys.setrecursionlimit(limit)
+        self.assertEqual(told, ALL_BUT_A)
+        self.assertEqual(total, [0, 127])
+
+
+if __name__ == "__main__":
+    unittest.main()

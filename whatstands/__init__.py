@@ -1,0 +1,1 @@
+"""What stands: of a case of laws, rules and weights, what holds in the end."""

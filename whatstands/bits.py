@@ -1,0 +1,13 @@
+"""Sets kept as numbers: bit k (2 to the k) stands for member k."""
+
+
+def has_member(some, k):
+    return some >> k & 1 == 1
+
+
+def with_member(some, k):
+    return some | (1 << k)
+
+
+def is_within(some, other):
+    return some & other == some

@@ -1,0 +1,80 @@
+"""What stands among all rules of a case, asked of its strikes.
+
+strikes: by each set of rules, the set of those that it strikes.
+"""
+
+from whatstands.bits import has_member, is_within
+
+
+def all_rules(strikes):
+    return len(strikes) - 1
+
+
+def defended_by(strikes, some):
+    """The rules that a set defends."""
+    # A larger set strikes more, so if any set without a rule that some strikes
+    # goes against a rule, the largest such set does.
+    unanswered = all_rules(strikes) ^ strikes[some]
+    return all_rules(strikes) ^ strikes[unanswered]
+
+
+def is_free(strikes, some):
+    return strikes[some] & some == 0
+
+
+def is_admissible(strikes, some):
+    return is_free(strikes, some) and is_within(some, defended_by(strikes, some))
+
+
+def is_complete(strikes, some):
+    return is_free(strikes, some) and some == defended_by(strikes, some)
+
+
+def is_stable(strikes, some):
+    return is_free(strikes, some) and some | strikes[some] == all_rules(strikes)
+
+
+def admissible_sets(strikes):
+    """All admissible sets, rising."""
+    return [some for some in range(len(strikes)) if is_admissible(strikes, some)]
+
+
+def preferred_sets(admissible):
+    """Of all admissible sets, rising, those within no other; falling."""
+    preferred = []
+    # A set that has another is the greater number, so it comes first from behind.
+    for some in reversed(admissible):
+        if not any([is_within(some, other) for other in preferred]):
+            preferred.append(some)
+    return preferred
+
+
+def wide_set(admissible, preferred):
+    """Of all admissible sets within every preferred one the one that has the others."""
+    common = preferred[0]
+    for some in preferred:
+        common &= some
+    # It has all of them, and only what they have, so it's what they have together.
+    wide = 0
+    for some in admissible:
+        if is_within(some, common):
+            wide |= some
+    return wide
+
+
+def rounds(strikes):
+    """The sets of the rounds, from round 0 to the first that no further one changes."""
+    reached = [0]
+    following = defended_by(strikes, 0)
+    while following != reached[-1]:
+        reached.append(following)
+        following = defended_by(strikes, following)
+    return reached
+
+
+def rank_of(reached, i):
+    """The first round that has the rule, 0 if none has."""
+    for number, some in enumerate(reached):
+        if has_member(some, i):
+            return number
+    return 0
