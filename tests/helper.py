@@ -43,6 +43,43 @@ def padded(lines, heavier, lighter, size):
     raise ValueError("no such size")
 
 
+FOES = ("rule a: => p", "rule b: => ~p")
+# a and b go against one another, and each of them against c, which d goes against.
+APART = ("law k: a -> ~c", "law l: b -> ~c") + FOES + ("rule c: => s", "rule d: => ~s")
+# d by itself goes against c too, so a preferred set has a or b, and d.
+SELF_MADE = APART + ("weigh a > c", "weigh b > c")
+# As before, but d needs a or b against c.
+HELPED = SELF_MADE + ("weigh c > d",)
+TRIO = ("law k: p, q -> ~s", "rule a: => p", "rule b: => q", "rule c: => s")
+CHAIN = tuple(f"rule r{k}: => ~r{k - 1}" for k in range(1, 6)) + tuple(
+    f"weigh r{k} > r{k - 1}" for k in range(2, 6))
+
+# Cases worked out by hand, told line by line.
+TOLD = (
+    (),
+    ("law a: -> p",),
+    ("law a: -> p", "law b: p -> ~q"),
+    ("rule a: => p",),
+    ("rule a: => p", "rule b: p => q", "rule c: ~q, q => ~s"),
+    FOES,
+    FOES + ("rule c: => q",),
+    FOES + ("weigh a > b",),
+    FOES + ("weigh b > a",),
+    ("rule a: => ~p", "rule b: => q", "rule c: => p", "weigh c > b", "weigh b > a"),
+    ("law k: -> ~p", "rule a: => p"),
+    ("rule a: => ~a", "rule b: => a"),
+    ("rule a: => q", "rule b: q => p", "rule c: q => ~p"),
+    FOES + ("rule c: => ~b", "weigh c > b", "weigh b > a"),
+    TRIO,
+    TRIO + ("weigh a > c",),
+    TRIO + ("weigh a > b", "weigh c > b"),
+    SELF_MADE,
+    HELPED,
+    CHAIN,
+    ("rule z: => p", "rule m: => ~p", "rule a: => ~m", "weigh a > m", "weigh m > z"),
+)
+
+
 class Slow:
     """The second reading of a text. fault: None, or the kind and the place of the text's fault."""
 
@@ -172,12 +209,34 @@ class Slow:
         ranks = self.ranks()
         return [0, self.number(ranks)] + [ranks.get(rule, 0) for rule in self.names]
 
+    def all_admissible(self):
+        return [some for some in self.subsets(self.names) if self.admissible(some)]
+
+    def all_preferred(self):
+        admissible = self.all_admissible()
+        return [some for some in admissible if not any(some < other for other in admissible)]
+
+    def all_wide(self):
+        """The wide set alone, if there's just one as the document says."""
+        inner = [some for some in self.all_admissible() if all(some <= other for other in self.all_preferred())]
+        return [some for some in inner if all(other <= some for other in inner)]
+
+    def all_of_kind(self, kind):
+        """The numbers of the sets of that kind, rising."""
+        every = self.subsets(self.names)
+        found = (
+            self.all_admissible,
+            lambda: [some for some in every if self.complete(some)],
+            self.all_preferred,
+            lambda: [some for some in every if self.stable(some)],
+        )[kind]()
+        return sorted(self.number(some) for some in found)
+
     def kinds(self):
         """By each set's number the sum that kinds is to answer."""
-        admissible = [some for some in self.subsets(self.names) if self.admissible(some)]
-        preferred = [some for some in admissible if not any(some < other for other in admissible)]
-        inner = [some for some in admissible if all(some <= other for other in preferred)]
-        wide = [some for some in inner if all(other <= some for other in inner)]
+        admissible = self.all_admissible()
+        preferred = self.all_preferred()
+        wide = self.all_wide()
         ground = frozenset(self.ranks())
         sums = {}
         for some in self.subsets(self.names):
@@ -252,3 +311,8 @@ def made_up_cases(count, most_rules):
         if Slow(t).fault is None:
             found.append(t)
     return found
+
+
+def told_and_made_up(count, most_rules):
+    """The cases worked out by hand, and some made up."""
+    return [text(*lines) for lines in TOLD] + made_up_cases(count, most_rules)

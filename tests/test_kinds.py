@@ -2,25 +2,13 @@
 
 import unittest
 
-from helper import Slow, made_up_cases, text
+from helper import HELPED, SELF_MADE, Slow, made_up_cases, text
 from whatstands.moot import kinds
 
 FREE, ADMISSIBLE, COMPLETE, PREFERRED, STABLE, GROUND, WIDE = 1, 2, 4, 8, 16, 32, 64
 CHOICE = FREE + ADMISSIBLE + COMPLETE + PREFERRED + STABLE
 EVERY = CHOICE + GROUND + WIDE
 CORE = FREE + ADMISSIBLE + COMPLETE + GROUND + WIDE
-
-APART = ("law k: a -> ~c", "law l: b -> ~c", "rule a: => p", "rule b: => ~p", "weigh a > c", "weigh b > c")
-# a or b goes with d in every preferred set; d by itself goes against c too.
-SELF_MADE = ("rule c: => s", "rule d: => ~s")
-# As before, but d needs a or b against c.
-HELPED = ("rule c: => s", "rule d: => ~s", "weigh c > d")
-
-
-def with_rules(rules):
-    """The lines of APART with the rules that c and d have, all rules ahead of all weights."""
-    lines = APART + rules
-    return sorted(lines, key=lambda line: line.startswith("weigh"))
 
 
 class KindsTest(unittest.TestCase):
@@ -83,13 +71,13 @@ class KindsTest(unittest.TestCase):
         return CORE if some == 0 else FREE + ADMISSIBLE + COMPLETE
 
     def test_wide_set_larger_than_the_ground(self):
-        t = text(*with_rules(SELF_MADE))
+        t = text(*SELF_MADE)
         sums = [kinds(some, t)[1] for some in range(16)]
         self.assertEqual(sums, [FREE + ADMISSIBLE + COMPLETE + GROUND, 3, 3, 0, 1, 0, 0, 0,
                                 FREE + ADMISSIBLE + COMPLETE + WIDE, CHOICE, CHOICE, 0, 0, 0, 0, 0])
 
     def test_wide_set_smaller_than_what_the_preferred_share(self):
-        t = text(*with_rules(HELPED))
+        t = text(*HELPED)
         sums = [kinds(some, t)[1] for some in range(16)]
         self.assertEqual(sums, [CORE, 3, 3, 0, 1, 0, 0, 0, 1, CHOICE, CHOICE, 0, 0, 0, 0, 0])
 

@@ -5,7 +5,7 @@ import sys
 import unittest
 
 from helper import Slow, padded, text
-from whatstands.moot import ground, kinds
+from whatstands.moot import ground, kinds, many, sets
 
 NAMES = ("a", "b", "bb", "c", "d", "e", "f", "g", "h", "i")
 RULES = [f"rule {name}: => {name}" for name in NAMES]
@@ -31,7 +31,36 @@ def broad_laws():
     return RULES + laws[::-1] + begin + [f"law end: {atoms[52]} -> ~a", "weigh i > a"]
 
 
+def at_most_five():
+    """Any five of the ten rules go together, no six: the atom ckj says that at least j of the first k hold."""
+    def counted(k, j):
+        return f"c{k}{j}"
+
+    nodes = [(k, j) for k in range(1, 10) for j in range(max(1, k - 4), min(k, 5) + 1)]
+    lines = ["law begin: -> z"]
+    for k, name in enumerate(NAMES, start=1):
+        lines.append(f"rule {name}: => {counted(k, 1) if (k, 1) in nodes else name}")
+    for k, j in nodes:
+        if (k - 1, j) in nodes:
+            lines.append(f"law keep{k}{j}: {counted(k - 1, j)} -> {counted(k, j)}")
+        if (k - 1, j - 1) in nodes:
+            lines.append(f"law more{k}{j}: {NAMES[k - 1]}, {counted(k - 1, j - 1)} -> {counted(k, j)}")
+    for k in range(6, 11):
+        lines.append(f"law full{k}: {NAMES[k - 1]}, {counted(k - 1, 5)} -> ~z")
+    return lines
+
+
+def fives():
+    return [some for some in range(1024) if bin(some).count("1") == 5]
+
+
 class LargestTest(unittest.TestCase):
+    def check_sets(self, t, *expected):
+        """What there is of each kind, from admissible to stable."""
+        for kind, found in enumerate(expected):
+            self.assertEqual(many(kind, t), [0, len(found)])
+            self.assertEqual(sets(kind, 0, 4294967295, t), [0] + found)
+
     def check_long_chain(self, t):
         self.assertEqual(ground(t), ALL_BUT_A)
         self.assertEqual(kinds(1022, t), [0, 127])
@@ -39,6 +68,8 @@ class LargestTest(unittest.TestCase):
         self.assertEqual(kinds(1, t), [0, 1])
         self.assertEqual(kinds(512, t), [0, 3])
         self.assertEqual(kinds(1024, t), [-1])
+        # Nothing but a and i go against one another, and i is the heavier.
+        self.check_sets(t, [some for some in range(1024) if some & 1 == 0], [1022], [1022], [1022])
 
     def test_most_laws_rules_and_atoms(self):
         read = Slow(text(*long_chain()))
@@ -69,6 +100,8 @@ class LargestTest(unittest.TestCase):
         self.assertEqual(kinds(513, t), [0, 1])
         for i in range(9):
             self.assertEqual(kinds(1023 - (1 << i), t), [0, 31])
+        preferred = [1023 - (1 << i) for i in range(8, -1, -1)]
+        self.check_sets(t, [0, 512] + preferred, [512] + preferred, preferred, preferred)
 
     def test_many_preferred_sets(self):
         heads = [sign + atom for atom in "pqsuv" for sign in ("", "~")]
@@ -79,6 +112,23 @@ class LargestTest(unittest.TestCase):
         self.assertEqual(kinds(0b1001100110, t), [0, 31])
         self.assertEqual(kinds(0b0001100110, t), [0, 7])
         self.assertEqual(kinds(0b0011100110, t), [0, 0])
+        apart = [some for some in range(1024) if some & some >> 1 & 0b0101010101 == 0]
+        preferred = [some for some in apart if (some | some >> 1) & 0b0101010101 == 0b0101010101]
+        self.assertEqual((len(apart), len(preferred)), (243, 32))
+        self.check_sets(t, apart, apart, preferred, preferred)
+
+    def test_most_admissible_sets(self):
+        t = text(*RULES)
+        self.check_sets(t, list(range(1024)), [1023], [1023], [1023])
+        self.assertEqual(sets(0, 1023, 4294967295, t), [0, 1023])
+        self.assertEqual(sets(0, 1024, 4294967295, t), [0])
+        self.assertEqual(sets(0, 500, 3, t), [0, 500, 501, 502])
+
+    def test_most_preferred_sets(self):
+        t = text(*at_most_five())
+        self.assertIsNone(Slow(t).fault)
+        self.assertEqual(len(fives()), 252)
+        self.check_sets(t, [0] + fives(), [0] + fives(), fives(), fives())
 
     def test_calls_do_not_go_deep(self):
         t = padded(long_chain() + ["weigh i > b", "weigh i > bb"], "i", "b", 8192)
@@ -87,10 +137,14 @@ class LargestTest(unittest.TestCase):
         try:
             told = ground(t)
             total = kinds(1022, t)
+            count = many(2, t)
+            found = sets(2, 0, 1, t)
         finally:
             sys.setrecursionlimit(limit)
         self.assertEqual(told, ALL_BUT_A)
         self.assertEqual(total, [0, 127])
+        self.assertEqual(count, [0, 1])
+        self.assertEqual(found, [0, 1022])
 
 
 if __name__ == "__main__":

@@ -1,21 +1,11 @@
-"""The promises 1, 2 and 3, asked through ground and kinds alone."""
+"""The promises, asked through the calls alone."""
 
 import unittest
 
-from helper import made_up_cases, text
-from whatstands.moot import ground, kinds
+from helper import told_and_made_up
+from whatstands.moot import ground, kinds, many, sets
 
 FREE, ADMISSIBLE, COMPLETE, PREFERRED, STABLE, GROUND, WIDE = 1, 2, 4, 8, 16, 32, 64
-
-TOLD = (
-    text(),
-    text("law a: -> p"),
-    text("rule a: => p", "rule b: => ~p", "rule c: => q"),
-    text("law k: a -> ~c", "law l: b -> ~c", "rule a: => p", "rule b: => ~p", "rule c: => s", "rule d: => ~s",
-         "weigh a > c", "weigh b > c"),
-    text(*[f"rule r{k}: => ~r{k - 1}" for k in range(1, 6)], *[f"weigh r{k} > r{k - 1}" for k in range(2, 6)]),
-    text("law k: p, q -> ~s", "rule a: => p", "rule b: => q", "rule c: => s", "weigh a > c"),
-)
 
 
 def within(some, other):
@@ -26,7 +16,7 @@ class PromiseTest(unittest.TestCase):
     @classmethod
     def setUpClass(cls):
         cls.asked = []
-        for t in list(TOLD) + made_up_cases(200, 5):
+        for t in told_and_made_up(200, 5):
             told = ground(t)
             sums = [kinds(some, t)[1] for some in range(1 << len(told) - 2)]
             cls.asked.append((bytes(t), told[1], told[2:], sums))
@@ -84,6 +74,38 @@ class PromiseTest(unittest.TestCase):
                 for narrow, broad in pairs:
                     self.assertTrue(total & broad or not total & narrow)
         self.each(check)
+
+
+class SetsPromiseTest(unittest.TestCase):
+    """The promises 1 and 2, asked through ground, many and sets."""
+
+    @classmethod
+    def setUpClass(cls):
+        cls.asked = []
+        for t in told_and_made_up(200, 5):
+            found = [sets(kind, 0, 4294967295, t)[1:] for kind in range(4)]
+            cls.asked.append((t, ground(t)[1], found))
+
+    def test_1_ground_is_the_least_complete_set(self):
+        for t, base, found in self.asked:
+            with self.subTest(bytes(t)):
+                self.assertEqual(found[1][0], base)
+                self.assertTrue(all(within(base, some) for some in found[1]))
+
+    def test_2_preferred_sets(self):
+        for t, base, found in self.asked:
+            with self.subTest(bytes(t)):
+                self.assertGreater(many(2, t)[1], 0)
+                for some in found[0]:
+                    self.assertTrue(any(within(some, other) for other in found[2]))
+                self.assertLessEqual(set(found[2]), set(found[1]))
+                self.assertEqual(found[2], found[3])
+
+    def test_each_kind_takes_in_the_narrower(self):
+        for t, base, found in self.asked:
+            with self.subTest(bytes(t)):
+                self.assertLessEqual(set(found[1]), set(found[0]))
+                self.assertEqual(found[0][0], 0)
 
 
 if __name__ == "__main__":

@@ -11,3 +11,8 @@ def with_member(some, k):
 
 def is_within(some, other):
     return some & other == some
+
+
+def places_held(held):
+    """The set of the places at which a row has True."""
+    return sum([1 << place for place, holds in enumerate(held) if holds])

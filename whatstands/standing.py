@@ -5,6 +5,11 @@ strikes: by each set of rules, the set of those that it strikes.
 
 from whatstands.bits import has_member, is_within
 
+ADMISSIBLE = 0
+COMPLETE = 1
+PREFERRED = 2
+STABLE = 3
+
 
 def all_rules(strikes):
     return len(strikes) - 1
@@ -40,13 +45,25 @@ def admissible_sets(strikes):
 
 
 def preferred_sets(admissible):
-    """Of all admissible sets, rising, those within no other; falling."""
+    """Of all admissible sets, rising, those within no other; rising."""
     preferred = []
     # A set that has another is the greater number, so it comes first from behind.
     for some in reversed(admissible):
         if not any([is_within(some, other) for other in preferred]):
             preferred.append(some)
-    return preferred
+    return list(reversed(preferred))
+
+
+def sets_of_kind(strikes, kind):
+    """All sets of a kind, rising."""
+    if kind == STABLE:
+        return [some for some in range(len(strikes)) if is_stable(strikes, some)]
+    admissible = admissible_sets(strikes)
+    if kind == PREFERRED:
+        return preferred_sets(admissible)
+    if kind == COMPLETE:
+        return [some for some in admissible if is_complete(strikes, some)]
+    return admissible
 
 
 def wide_set(admissible, preferred):
