@@ -245,6 +245,25 @@ class Slow:
             sums[self.number(some)] = sum(1 << place for place, holds in enumerate(held) if holds)
         return sums
 
+    def literals(self):
+        """All literals in the order of their numbers."""
+        return [sign + atom for atom in sorted(self.atoms) for sign in ("", "~")]
+
+    def stands(self):
+        """By each literal's number the sum that stands is to answer."""
+        preferred = [self.follows(some) for some in self.all_preferred()]
+        ground = self.follows(self.ranks())
+        wide = self.follows(self.all_wide()[0])
+        sums = []
+        for literal in self.literals():
+            opposite = literal[1:] if literal.startswith("~") else "~" + literal
+            held = (literal in ground, opposite in ground,
+                    any(literal in each for each in preferred), all(literal in each for each in preferred),
+                    any(opposite in each for each in preferred), all(opposite in each for each in preferred),
+                    literal in wide)
+            sums.append(sum(1 << place for place, holds in enumerate(held) if holds))
+        return sums
+
 
 class Dice:
     """Numbers that look thrown and are the same each time."""

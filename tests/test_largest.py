@@ -5,7 +5,7 @@ import sys
 import unittest
 
 from helper import Slow, padded, text
-from whatstands.moot import ground, kinds, many, sets
+from whatstands.moot import ground, kinds, many, sets, stands, wide
 
 NAMES = ("a", "b", "bb", "c", "d", "e", "f", "g", "h", "i")
 RULES = [f"rule {name}: => {name}" for name in NAMES]
@@ -50,6 +50,10 @@ def at_most_five():
     return lines
 
 
+def opposite(literal):
+    return literal[1:] if literal.startswith("~") else "~" + literal
+
+
 def fives():
     return [some for some in range(1024) if bin(some).count("1") == 5]
 
@@ -61,6 +65,13 @@ class LargestTest(unittest.TestCase):
             self.assertEqual(many(kind, t), [0, len(found)])
             self.assertEqual(sets(kind, 0, 4294967295, t), [0] + found)
 
+    def check_literals(self, t, expected):
+        """The sums of some literals, the first and the last of all among them."""
+        names = Slow(t).literals()
+        for literal, total in expected.items():
+            self.assertEqual(stands(names.index(literal), t), [0, total], literal)
+        self.assertEqual(stands(len(names), t), [-1])
+
     def check_long_chain(self, t):
         self.assertEqual(ground(t), ALL_BUT_A)
         self.assertEqual(kinds(1022, t), [0, 127])
@@ -70,6 +81,9 @@ class LargestTest(unittest.TestCase):
         self.assertEqual(kinds(1024, t), [-1])
         # Nothing but a and i go against one another, and i is the heavier.
         self.check_sets(t, [some for some in range(1024) if some & 1 == 0], [1022], [1022], [1022])
+        self.assertEqual(wide(t), [0, 1022])
+        self.check_literals(t, {"a": 50, "~a": 77, "b": 77, "i": 77, "~i": 50, "p0": 77, "p53": 77, "p9": 77, "~p9": 50})
+        self.assertEqual(stands(127, t), [0, 50])
 
     def test_most_laws_rules_and_atoms(self):
         read = Slow(text(*long_chain()))
@@ -102,6 +116,10 @@ class LargestTest(unittest.TestCase):
             self.assertEqual(kinds(1023 - (1 << i), t), [0, 31])
         preferred = [1023 - (1 << i) for i in range(8, -1, -1)]
         self.check_sets(t, [0, 512] + preferred, [512] + preferred, preferred, preferred)
+        self.assertEqual(wide(t), [0, 512])
+        # What comes about without any rule, with all but one, with all ten alone.
+        self.check_literals(t, {"i": 77, "~i": 50, "a": 4, "~a": 16, "b": 4, "~b": 16, "p00-234567890ab": 77,
+                                "p05-234567890ab": 4, "p52-234567890ab": 0, "~p52-234567890ab": 0})
 
     def test_many_preferred_sets(self):
         heads = [sign + atom for atom in "pqsuv" for sign in ("", "~")]
@@ -116,10 +134,14 @@ class LargestTest(unittest.TestCase):
         preferred = [some for some in apart if (some | some >> 1) & 0b0101010101 == 0b0101010101]
         self.assertEqual((len(apart), len(preferred)), (243, 32))
         self.check_sets(t, apart, apart, preferred, preferred)
+        self.assertEqual(wide(t), [0, 0])
+        self.check_literals(t, {"a": 4, "~a": 16, "p": 20, "~v": 20})
 
     def test_most_admissible_sets(self):
         t = text(*RULES)
         self.check_sets(t, list(range(1024)), [1023], [1023], [1023])
+        self.assertEqual(wide(t), [0, 1023])
+        self.check_literals(t, {"a": 77, "~a": 50, "i": 77, "~i": 50})
         self.assertEqual(sets(0, 1023, 4294967295, t), [0, 1023])
         self.assertEqual(sets(0, 1024, 4294967295, t), [0])
         self.assertEqual(sets(0, 500, 3, t), [0, 500, 501, 502])
@@ -129,6 +151,8 @@ class LargestTest(unittest.TestCase):
         self.assertIsNone(Slow(t).fault)
         self.assertEqual(len(fives()), 252)
         self.check_sets(t, [0] + fives(), [0] + fives(), fives(), fives())
+        self.assertEqual(wide(t), [0, 0])
+        self.check_literals(t, {"a": 4, "z": 77, "~z": 50, "c11": 4, "c62": 4, "c95": 4, "~c95": 16})
 
     def test_calls_do_not_go_deep(self):
         t = padded(long_chain() + ["weigh i > b", "weigh i > bb"], "i", "b", 8192)
@@ -139,12 +163,16 @@ class LargestTest(unittest.TestCase):
             total = kinds(1022, t)
             count = many(2, t)
             found = sets(2, 0, 1, t)
+            largest = wide(t)
+            how = stands(127, t)
         finally:
             sys.setrecursionlimit(limit)
         self.assertEqual(told, ALL_BUT_A)
         self.assertEqual(total, [0, 127])
         self.assertEqual(count, [0, 1])
         self.assertEqual(found, [0, 1022])
+        self.assertEqual(largest, [0, 1022])
+        self.assertEqual(how, [0, 50])
 
 
 if __name__ == "__main__":

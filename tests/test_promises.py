@@ -2,9 +2,10 @@
 
 import unittest
 
-from helper import told_and_made_up
-from whatstands.moot import ground, kinds, many, sets
+from helper import Slow, told_and_made_up
+from whatstands.moot import ground, kinds, many, sets, stands, wide
 
+HIGHEST = 4294967295
 FREE, ADMISSIBLE, COMPLETE, PREFERRED, STABLE, GROUND, WIDE = 1, 2, 4, 8, 16, 32, 64
 
 
@@ -83,7 +84,7 @@ class SetsPromiseTest(unittest.TestCase):
     def setUpClass(cls):
         cls.asked = []
         for t in told_and_made_up(200, 5):
-            found = [sets(kind, 0, 4294967295, t)[1:] for kind in range(4)]
+            found = [sets(kind, 0, HIGHEST, t)[1:] for kind in range(4)]
             cls.asked.append((t, ground(t)[1], found))
 
     def test_1_ground_is_the_least_complete_set(self):
@@ -106,6 +107,43 @@ class SetsPromiseTest(unittest.TestCase):
             with self.subTest(bytes(t)):
                 self.assertLessEqual(set(found[1]), set(found[0]))
                 self.assertEqual(found[0][0], 0)
+
+
+class WidePromiseTest(unittest.TestCase):
+    """The promises 3 and 4, asked through ground, sets, wide and stands."""
+
+    @classmethod
+    def setUpClass(cls):
+        cls.cases = told_and_made_up(200, 5)
+
+    def test_3_wide_set_is_complete_and_has_the_ground(self):
+        for t in self.cases:
+            with self.subTest(bytes(t)):
+                largest = wide(t)[1]
+                self.assertIn(largest, sets(1, 0, HIGHEST, t)[1:])
+                self.assertTrue(within(ground(t)[1], largest))
+                for some in sets(2, 0, HIGHEST, t)[1:]:
+                    self.assertTrue(within(largest, some))
+
+    def test_4_what_stands_is_held_anyway(self):
+        for t in self.cases:
+            with self.subTest(bytes(t)):
+                for literal in range(2 * len(Slow(t).atoms)):
+                    total = stands(literal, t)[1]
+                    if total & 1:
+                        self.assertEqual(total & 8, 8)
+                    if total & 8:
+                        self.assertEqual(total & (4 + 16), 4)
+
+    def test_what_stands_follows_from_the_wide_set(self):
+        for t in self.cases:
+            with self.subTest(bytes(t)):
+                for literal in range(2 * len(Slow(t).atoms)):
+                    total = stands(literal, t)[1]
+                    if total & 1:
+                        self.assertEqual(total & 64, 64)
+                    if total & 64:
+                        self.assertEqual(total & 8, 8)
 
 
 if __name__ == "__main__":

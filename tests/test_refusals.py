@@ -5,7 +5,7 @@ import io
 import unittest
 
 from helper import made_up_cases, padded, raw, text
-from whatstands.moot import ground, kinds, many, sets
+from whatstands.moot import ground, kinds, many, sets, stands, wide
 
 HIGHEST = 4294967295
 RULES = ("rule a: => p", "rule b: => ~p", "rule bb: => q")
@@ -27,13 +27,14 @@ NUMBERED = [
     ("kinds", kinds),
     ("many", many),
     ("sets", lambda kind, t: sets(kind, 0, HIGHEST, t)),
+    ("stands", stands),
 ]
 
 # By each such call the least number that's refused with RULES alone.
-LIMITS = {"kinds": 8, "many": 4, "sets": 4}
+LIMITS = {"kinds": 8, "many": 4, "sets": 4, "stands": 10}
 
 # Calls that answer 0 and one number, unless they refuse.
-ONE_NUMBER = ("kinds", "many")
+ONE_NUMBER = ("kinds", "many", "wide", "stands")
 
 
 def handing_in(call, number):
@@ -41,7 +42,7 @@ def handing_in(call, number):
 
 
 # Every call as a function of the text alone, with numbers that all cases have and such as only some have.
-CALLS = [("ground", ground)]
+CALLS = [("ground", ground), ("wide", wide)]
 CALLS += [(name, handing_in(call, number)) for name, call in NUMBERED for number in (0, 1)]
 
 
@@ -116,6 +117,14 @@ class RefusalTest(unittest.TestCase):
         self.assertEqual(kinds(1, []), [-1])
         self.assertEqual(kinds(1, text("law k: -> p")), [-1])
 
+    def test_literal(self):
+        t = text(*RULES)
+        for literal in range(10):
+            self.assertEqual(stands(literal, t)[0], 0)
+        self.assertEqual(stands(10, t), [-1])
+        for literal in (0, 1, HIGHEST):
+            self.assertEqual(stands(literal, []), [-1])
+
     def test_all_reasons_at_once(self):
         for name, call in NUMBERED:
             with self.subTest(name):
@@ -189,6 +198,8 @@ class CallTest(unittest.TestCase):
         self.assertEqual(kinds(some=3, t=t), kinds(3, t))
         self.assertEqual(many(kind=1, t=t), many(1, t))
         self.assertEqual(sets(kind=1, start=0, most=2, t=t), sets(1, 0, 2, t))
+        self.assertEqual(wide(t=t), wide(t))
+        self.assertEqual(stands(literal=3, t=t), stands(3, t))
 
 
 if __name__ == "__main__":

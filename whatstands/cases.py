@@ -28,6 +28,7 @@ class Case:
         self.laws = [step_of(draft.laws[name], bit_of) for name in draft.laws]
         self.rules = [step_of(draft.rules[name], bit_of) for name in rule_names]
         self.name_bits = [bit_of[(name, 0)] for name in rule_names]
+        self.literal_count = 2 * len(draft.atoms)
         self.unopposed = sum([bit_of[(atom, 0)] for atom in draft.atoms])
         self.outweighed = outweighed_rules(rule_names, draft.weights)
 

@@ -41,6 +41,6 @@ def follow_table(case):
     return table
 
 
-def clash_table(case):
-    """By each set of rules, whether it clashes."""
-    return [has_opposites(held, case.unopposed) for held in follow_table(case)]
+def clash_table(case, follows):
+    """By each set of rules, whether it clashes; follows tells what follows from each."""
+    return [has_opposites(held, case.unopposed) for held in follows]

@@ -2,8 +2,10 @@
 
 from whatstands.bits import places_held
 from whatstands.cases import read_case
-from whatstands.standing import STABLE, admissible_sets, preferred_sets, rank_of, rounds, sets_of_kind, wide_set
-from whatstands.standing import is_admissible, is_complete, is_free, is_stable
+from whatstands.follows import follow_table
+from whatstands.literals import held_table, standing_of
+from whatstands.standing import STABLE, admissible_sets, ground_set, preferred_sets, rank_of, rounds, sets_of_kind
+from whatstands.standing import is_admissible, is_complete, is_free, is_stable, wide_set
 from whatstands.strikes import strike_table
 
 MOST_BYTES = 8192
@@ -19,8 +21,17 @@ def answer(t, tell):
     return tell(case)
 
 
+def strikes_of(case):
+    return strike_table(case, follow_table(case))
+
+
+def held_in(case):
+    follows = follow_table(case)
+    return held_table(follows, strike_table(case, follows))
+
+
 def tell_ground(case):
-    reached = rounds(strike_table(case))
+    reached = rounds(strikes_of(case))
     ranks = [rank_of(reached, i) for i in range(len(case.rules))]
     return [0, reached[-1]] + ranks
 
@@ -28,7 +39,7 @@ def tell_ground(case):
 def tell_kinds(case, some):
     if some >> len(case.rules) != 0:
         return [-1]
-    strikes = strike_table(case)
+    strikes = strikes_of(case)
     admissible = admissible_sets(strikes)
     preferred = preferred_sets(admissible)
     held = [
@@ -37,7 +48,7 @@ def tell_kinds(case, some):
         is_complete(strikes, some),
         some in preferred,
         is_stable(strikes, some),
-        some == rounds(strikes)[-1],
+        some == ground_set(strikes),
         some == wide_set(admissible, preferred),
     ]
     return [0, places_held(held)]
@@ -46,13 +57,24 @@ def tell_kinds(case, some):
 def tell_many(case, kind):
     if kind > STABLE:
         return [-1]
-    return [0, len(sets_of_kind(strike_table(case), kind))]
+    return [0, len(sets_of_kind(strikes_of(case), kind))]
 
 
 def tell_sets(case, kind, start, most):
     if kind > STABLE:
         return [-1]
-    return [0] + sets_of_kind(strike_table(case), kind)[start:start + most]
+    return [0] + sets_of_kind(strikes_of(case), kind)[start:start + most]
+
+
+def tell_wide(case):
+    admissible = admissible_sets(strikes_of(case))
+    return [0, wide_set(admissible, preferred_sets(admissible))]
+
+
+def tell_stands(case, literal):
+    if literal >= case.literal_count:
+        return [-1]
+    return [0, standing_of(held_in(case), literal)]
 
 
 def ground(t):
@@ -73,3 +95,16 @@ def many(kind, t):
 def sets(kind, start, most, t):
     """The sets of that kind, rising, from the start-th on (0 the first), at most so many."""
     return answer(t, lambda case: tell_sets(case, kind, start, most))
+
+
+def wide(t):
+    """The wide set."""
+    return answer(t, tell_wide)
+
+
+def stands(literal, t):
+    """A sum: 1 the literal stands, 2 falls, 4 may be held, 8 is held anyway, 16 its opposite may be held,
+
+    32 its opposite is held anyway, 64 it follows from the wide set.
+    """
+    return answer(t, lambda case: tell_stands(case, literal))

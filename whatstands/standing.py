@@ -89,6 +89,11 @@ def rounds(strikes):
     return reached
 
 
+def ground_set(strikes):
+    """The least set that has all that it defends."""
+    return rounds(strikes)[-1]
+
+
 def rank_of(reached, i):
     """The first round that has the rule, 0 if none has."""
     for number, some in enumerate(reached):

@@ -15,9 +15,9 @@ def struck_at_once(case, clashing, some):
     return struck
 
 
-def strike_table(case):
+def strike_table(case, follows):
     """By each set of rules, the set of those that it strikes, with all of itself or with a part."""
-    clashing = clash_table(case)
+    clashing = clash_table(case, follows)
     table = []
     for some in range(len(clashing)):
         struck = struck_at_once(case, clashing, some)
