@@ -264,6 +264,27 @@ class Slow:
             sums.append(sum(1 << place for place, holds in enumerate(held) if holds))
         return sums
 
+    def strikers(self, rule):
+        """The least sets that strike the rule with all of themselves."""
+        against = [
+            some for some in self.subsets(self.names)
+            if rule not in some
+            and not any(self.outweighs(rule, other) for other in some)
+            and not self.clashes(some)
+            and self.clashes(some | {rule})
+        ]
+        return [some for some in against if not any(other < some for other in against)]
+
+    def first(self):
+        """By each rule's number the list that first is to answer."""
+        ground = frozenset(self.ranks())
+        told = []
+        for rule in self.names:
+            left = [some for some in self.strikers(rule) if not any(self.strikes(ground, other) for other in some)]
+            ordered = sorted((len(some), self.number(some)) for some in left)
+            told.append([-3] if rule in ground else [0, ordered[0][1]])
+        return told
+
 
 class Dice:
     """Numbers that look thrown and are the same each time."""

@@ -5,7 +5,7 @@ import sys
 import unittest
 
 from helper import Slow, padded, text
-from whatstands.moot import ground, kinds, many, sets, stands, wide
+from whatstands.moot import all_that, first, ground, kinds, many, sets, stands, wide
 
 NAMES = ("a", "b", "bb", "c", "d", "e", "f", "g", "h", "i")
 RULES = [f"rule {name}: => {name}" for name in NAMES]
@@ -72,6 +72,17 @@ class LargestTest(unittest.TestCase):
             self.assertEqual(stands(names.index(literal), t), [0, total], literal)
         self.assertEqual(stands(len(names), t), [-1])
 
+    def check_all(self, t, *expected):
+        """For each how from 0 on, the literals."""
+        names = Slow(t).literals()
+        for how, literals in enumerate(expected):
+            self.assertEqual(all_that(how, t), [0] + sorted(names.index(literal) for literal in literals))
+
+    def check_first(self, t, *expected):
+        """What first answers of each rule."""
+        self.assertEqual([first(rule, t) for rule in range(10)], list(expected))
+        self.assertEqual(first(10, t), [-1])
+
     def check_long_chain(self, t):
         self.assertEqual(ground(t), ALL_BUT_A)
         self.assertEqual(kinds(1022, t), [0, 127])
@@ -82,8 +93,12 @@ class LargestTest(unittest.TestCase):
         # Nothing but a and i go against one another, and i is the heavier.
         self.check_sets(t, [some for some in range(1024) if some & 1 == 0], [1022], [1022], [1022])
         self.assertEqual(wide(t), [0, 1022])
-        self.check_literals(t, {"a": 50, "~a": 77, "b": 77, "i": 77, "~i": 50, "p0": 77, "p53": 77, "p9": 77, "~p9": 50})
+        self.check_literals(t, {"a": 50, "~a": 77, "b": 77, "i": 77, "~i": 50, "p0": 77, "p53": 77,
+                                "p9": 77, "~p9": 50})
         self.assertEqual(stands(127, t), [0, 50])
+        held = ["~a"] + list(NAMES[1:]) + [f"p{k}" for k in range(54)]
+        self.check_all(t, held, held, held, held)
+        self.check_first(t, [0, 512], *[[-3]] * 9)
 
     def test_most_laws_rules_and_atoms(self):
         read = Slow(text(*long_chain()))
@@ -120,6 +135,11 @@ class LargestTest(unittest.TestCase):
         # What comes about without any rule, with all but one, with all ten alone.
         self.check_literals(t, {"i": 77, "~i": 50, "a": 4, "~a": 16, "b": 4, "~b": 16, "p00-234567890ab": 77,
                                 "p05-234567890ab": 4, "p52-234567890ab": 0, "~p52-234567890ab": 0})
+        begin = [f"p{k:02}-234567890ab" for k in range(5)]
+        # With all but h, the last rule but one, the chain goes on for eight steps.
+        held = list(NAMES) + begin + [f"p{k:02}-234567890ab" for k in range(5, 13)]
+        self.check_all(t, ["i"] + begin, held, ["i"] + begin, ["i"] + begin)
+        self.check_first(t, *[[0, 1023 - (1 << i)] for i in range(9)], [-3])
 
     def test_many_preferred_sets(self):
         heads = [sign + atom for atom in "pqsuv" for sign in ("", "~")]
@@ -136,12 +156,16 @@ class LargestTest(unittest.TestCase):
         self.check_sets(t, apart, apart, preferred, preferred)
         self.assertEqual(wide(t), [0, 0])
         self.check_literals(t, {"a": 4, "~a": 16, "p": 20, "~v": 20})
+        self.check_all(t, [], list(NAMES) + heads, [], [])
+        self.check_first(t, *[[0, 1 << (i ^ 1)] for i in range(10)])
 
     def test_most_admissible_sets(self):
         t = text(*RULES)
         self.check_sets(t, list(range(1024)), [1023], [1023], [1023])
         self.assertEqual(wide(t), [0, 1023])
         self.check_literals(t, {"a": 77, "~a": 50, "i": 77, "~i": 50})
+        self.check_all(t, NAMES, NAMES, NAMES, NAMES)
+        self.check_first(t, *[[-3]] * 10)
         self.assertEqual(sets(0, 1023, 4294967295, t), [0, 1023])
         self.assertEqual(sets(0, 1024, 4294967295, t), [0])
         self.assertEqual(sets(0, 500, 3, t), [0, 500, 501, 502])
@@ -153,6 +177,10 @@ class LargestTest(unittest.TestCase):
         self.check_sets(t, [0] + fives(), [0] + fives(), fives(), fives())
         self.assertEqual(wide(t), [0, 0])
         self.check_literals(t, {"a": 4, "z": 77, "~z": 50, "c11": 4, "c62": 4, "c95": 4, "~c95": 16})
+        counted = [literal for literal in Slow(t).literals() if literal[0] != "~"]
+        self.check_all(t, ["z"], counted, ["z"], ["z"])
+        # Any five others are against a rule: the least number has the first of them.
+        self.check_first(t, *[[0, 63 - (1 << i)] for i in range(5)], *[[0, 31]] * 5)
 
     def test_calls_do_not_go_deep(self):
         t = padded(long_chain() + ["weigh i > b", "weigh i > bb"], "i", "b", 8192)
@@ -165,6 +193,8 @@ class LargestTest(unittest.TestCase):
             found = sets(2, 0, 1, t)
             largest = wide(t)
             how = stands(127, t)
+            held = all_that(0, t)
+            striker = first(0, t)
         finally:
             sys.setrecursionlimit(limit)
         self.assertEqual(told, ALL_BUT_A)
@@ -173,6 +203,8 @@ class LargestTest(unittest.TestCase):
         self.assertEqual(found, [0, 1022])
         self.assertEqual(largest, [0, 1022])
         self.assertEqual(how, [0, 50])
+        self.assertEqual(held, [0, 1] + list(range(2, 128, 2)))
+        self.assertEqual(striker, [0, 512])
 
 
 if __name__ == "__main__":

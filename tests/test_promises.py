@@ -2,11 +2,21 @@
 
 import unittest
 
-from helper import Slow, told_and_made_up
-from whatstands.moot import ground, kinds, many, sets, stands, wide
+from helper import told_and_made_up
+from whatstands.moot import all_that, first, ground, kinds, many, sets, stands, wide
 
 HIGHEST = 4294967295
 FREE, ADMISSIBLE, COMPLETE, PREFERRED, STABLE, GROUND, WIDE = 1, 2, 4, 8, 16, 32, 64
+
+
+def sums_of(t):
+    """What stands tells of each literal."""
+    sums = []
+    given = stands(0, t)
+    while given != [-1]:
+        sums.append(given[1])
+        given = stands(len(sums), t)
+    return sums
 
 
 def within(some, other):
@@ -128,8 +138,7 @@ class WidePromiseTest(unittest.TestCase):
     def test_4_what_stands_is_held_anyway(self):
         for t in self.cases:
             with self.subTest(bytes(t)):
-                for literal in range(2 * len(Slow(t).atoms)):
-                    total = stands(literal, t)[1]
+                for total in sums_of(t):
                     if total & 1:
                         self.assertEqual(total & 8, 8)
                     if total & 8:
@@ -138,12 +147,42 @@ class WidePromiseTest(unittest.TestCase):
     def test_what_stands_follows_from_the_wide_set(self):
         for t in self.cases:
             with self.subTest(bytes(t)):
-                for literal in range(2 * len(Slow(t).atoms)):
-                    total = stands(literal, t)[1]
+                for total in sums_of(t):
                     if total & 1:
                         self.assertEqual(total & 64, 64)
                     if total & 64:
                         self.assertEqual(total & 8, 8)
+
+    def test_4_asked_of_all_that(self):
+        for t in self.cases:
+            with self.subTest(bytes(t)):
+                standing, holdable, anyway, widely = [set(all_that(how, t)[1:]) for how in range(4)]
+                self.assertLessEqual(standing, widely)
+                self.assertLessEqual(widely, anyway)
+                self.assertLessEqual(anyway, holdable)
+                self.assertFalse(holdable & {literal ^ 1 for literal in anyway})
+
+
+class StrikerPromiseTest(unittest.TestCase):
+    """The promise 5, asked through ground, kinds and first."""
+
+    def test_5_a_rule_is_not_in_the_ground_just_if_a_striker_is_left(self):
+        for t in told_and_made_up(200, 5):
+            with self.subTest(bytes(t)):
+                base = ground(t)[1]
+                for rule in range(len(ground(t)) - 2):
+                    given = first(rule, t)
+                    self.assertEqual(given[0], -3 if base >> rule & 1 else 0)
+                    if given[0] == 0:
+                        self.check_striker(rule, given[1], t)
+
+    def check_striker(self, rule, striker, t):
+        # It's free, with the rule no more; of a part that's smaller by one rule both are.
+        self.assertTrue(kinds(striker, t)[1] & FREE)
+        self.assertFalse(kinds(striker | 1 << rule, t)[1] & FREE)
+        for other in range(10):
+            if striker >> other & 1:
+                self.assertTrue(kinds(striker ^ 1 << other | 1 << rule, t)[1] & FREE)
 
 
 if __name__ == "__main__":

@@ -1,11 +1,12 @@
 """The refusals and their order, and what a call does besides answering: nothing."""
 
 import contextlib
+import inspect
 import io
 import unittest
 
 from helper import made_up_cases, padded, raw, text
-from whatstands.moot import ground, kinds, many, sets, stands, wide
+from whatstands.moot import all_that, first, ground, kinds, many, sets, stands, wide
 
 HIGHEST = 4294967295
 RULES = ("rule a: => p", "rule b: => ~p", "rule bb: => q")
@@ -28,13 +29,15 @@ NUMBERED = [
     ("many", many),
     ("sets", lambda kind, t: sets(kind, 0, HIGHEST, t)),
     ("stands", stands),
+    ("all_that", all_that),
+    ("first", first),
 ]
 
 # By each such call the least number that's refused with RULES alone.
-LIMITS = {"kinds": 8, "many": 4, "sets": 4, "stands": 10}
+LIMITS = {"kinds": 8, "many": 4, "sets": 4, "stands": 10, "all_that": 4, "first": 3}
 
 # Calls that answer 0 and one number, unless they refuse.
-ONE_NUMBER = ("kinds", "many", "wide", "stands")
+ONE_NUMBER = ("kinds", "many", "wide", "stands", "first")
 
 
 def handing_in(call, number):
@@ -67,7 +70,7 @@ class RefusalTest(unittest.TestCase):
         self.assertEqual(len(t), 8192)
         for name, call in CALLS:
             with self.subTest(name):
-                self.assertEqual(call(t)[0], 0)
+                self.assertIn(call(t)[0], (0, -3))
                 self.assertEqual(call(t), call(text(*RULES, "weigh a > b", "weigh a > bb")))
         self.assertEqual(ground(t), [0, 5, 1, 0, 1])
         self.assertEqual(kinds(5, t), [0, 127])
@@ -124,6 +127,22 @@ class RefusalTest(unittest.TestCase):
         self.assertEqual(stands(10, t), [-1])
         for literal in (0, 1, HIGHEST):
             self.assertEqual(stands(literal, []), [-1])
+
+    def test_rule(self):
+        t = text(*RULES)
+        self.assertEqual([first(rule, t) for rule in range(4)], [[0, 2], [0, 1], [-3], [-1]])
+        for rule in (0, 1, HIGHEST):
+            self.assertEqual(first(rule, []), [-1])
+            self.assertEqual(first(rule, text("law k: -> p")), [-1])
+
+    def test_there_is_none(self):
+        # A rule of the ground, with each reason that goes before.
+        t = padded(RULES, "a", "b", 8192)
+        self.assertEqual(first(0, t), [-3])
+        self.assertEqual(first(2, t), [-3])
+        self.assertEqual(first(3, t), [-1])
+        self.assertEqual(first(0, t[:-1]), [-6])
+        self.assertEqual(first(0, padded(RULES, "a", "b", 8193)), [-1])
 
     def test_all_reasons_at_once(self):
         for name, call in NUMBERED:
@@ -200,6 +219,14 @@ class CallTest(unittest.TestCase):
         self.assertEqual(sets(kind=1, start=0, most=2, t=t), sets(1, 0, 2, t))
         self.assertEqual(wide(t=t), wide(t))
         self.assertEqual(stands(literal=3, t=t), stands(3, t))
+        self.assertEqual(all_that(how=1, t=t), all_that(1, t))
+        self.assertEqual(first(rule=1, t=t), first(1, t))
+
+    def test_the_order_in_which_it_is_handed_in(self):
+        expected = {ground: ["t"], kinds: ["some", "t"], many: ["kind", "t"], sets: ["kind", "start", "most", "t"],
+                    wide: ["t"], stands: ["literal", "t"], all_that: ["how", "t"], first: ["rule", "t"]}
+        for call, names in expected.items():
+            self.assertEqual(list(inspect.signature(call).parameters), names)
 
 
 if __name__ == "__main__":

@@ -1,12 +1,12 @@
 """The calls. Each answers one list: a refusal's number alone, or 0 and the numbers asked for."""
 
-from whatstands.bits import places_held
+from whatstands.bits import has_member, members_of, places_held
 from whatstands.cases import read_case
 from whatstands.follows import follow_table
-from whatstands.literals import held_table, standing_of
-from whatstands.standing import STABLE, admissible_sets, ground_set, preferred_sets, rank_of, rounds, sets_of_kind
-from whatstands.standing import is_admissible, is_complete, is_free, is_stable, wide_set
-from whatstands.strikes import strike_table
+from whatstands.literals import WIDELY_HELD, held_table, standing_of
+from whatstands.standing import STABLE, admissible_sets, first_unstruck, ground_set, preferred_sets, rank_of, rounds
+from whatstands.standing import is_admissible, is_complete, is_free, is_stable, sets_of_kind, wide_set
+from whatstands.strikes import strike_table, strikers_of
 
 MOST_BYTES = 8192
 
@@ -77,6 +77,22 @@ def tell_stands(case, literal):
     return [0, standing_of(held_in(case), literal)]
 
 
+def tell_all(case, how):
+    if how > WIDELY_HELD:
+        return [-1]
+    return [0] + members_of(held_in(case)[how])
+
+
+def tell_first(case, rule):
+    if rule >= len(case.rules):
+        return [-1]
+    follows = follow_table(case)
+    strikes = strike_table(case, follows)
+    if has_member(ground_set(strikes), rule):
+        return [-3]
+    return [0, first_unstruck(strikes, strikers_of(case, follows, rule))]
+
+
 def ground(t):
     """The ground, a set of rules; then each rule's rank, 0 of one that isn't in it."""
     return answer(t, tell_ground)
@@ -103,8 +119,19 @@ def wide(t):
 
 
 def stands(literal, t):
-    """A sum: 1 the literal stands, 2 falls, 4 may be held, 8 is held anyway, 16 its opposite may be held,
+    """How a literal stands, a sum.
 
+    1 it stands, 2 falls, 4 may be held, 8 is held anyway, 16 its opposite may be held,
     32 its opposite is held anyway, 64 it follows from the wide set.
     """
     return answer(t, lambda case: tell_stands(case, literal))
+
+
+def all_that(how, t):
+    """The literals, rising, that stand (how 0), may be held (1), are held anyway (2), follow from the wide set (3)."""
+    return answer(t, lambda case: tell_all(case, how))
+
+
+def first(rule, t):
+    """Of a rule that isn't in the ground, the first of its strikers of which the ground strikes no rule."""
+    return answer(t, lambda case: tell_first(case, rule))

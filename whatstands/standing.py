@@ -3,7 +3,7 @@
 strikes: by each set of rules, the set of those that it strikes.
 """
 
-from whatstands.bits import has_member, is_within
+from whatstands.bits import has_member, is_within, members_of
 
 ADMISSIBLE = 0
 COMPLETE = 1
@@ -56,14 +56,14 @@ def preferred_sets(admissible):
 
 def sets_of_kind(strikes, kind):
     """All sets of a kind, rising."""
-    if kind == STABLE:
-        return [some for some in range(len(strikes)) if is_stable(strikes, some)]
     admissible = admissible_sets(strikes)
-    if kind == PREFERRED:
-        return preferred_sets(admissible)
+    if kind == ADMISSIBLE:
+        return admissible
     if kind == COMPLETE:
         return [some for some in admissible if is_complete(strikes, some)]
-    return admissible
+    if kind == PREFERRED:
+        return preferred_sets(admissible)
+    return [some for some in range(len(strikes)) if is_stable(strikes, some)]
 
 
 def wide_set(admissible, preferred):
@@ -100,3 +100,11 @@ def rank_of(reached, i):
         if has_member(some, i):
             return number
     return 0
+
+
+def first_unstruck(strikes, strikers):
+    """Of the strikers of which the ground strikes no rule the one with the fewest rules, of these the least."""
+    struck = strikes[ground_set(strikes)]
+    # There is one, if they are those of a rule outside the ground: else the ground would defend the rule.
+    unstruck = [some for some in strikers if some & struck == 0]
+    return min(unstruck, key=lambda some: (len(members_of(some)), some))

@@ -1,18 +1,30 @@
-"""Which rules each set of rules strikes."""
+"""Which rules each set of rules strikes, and the strikers of a rule."""
 
-from whatstands.bits import has_member, with_member
+from whatstands.bits import has_member, is_within, places_held, with_member
 from whatstands.follows import clash_table
 
 
+def goes_against(case, clashing, some, i):
+    """Whether a set strikes a rule with all of itself: it doesn't clash, but does with the rule."""
+    if has_member(some, i) or some & case.outweighed[i] != 0:
+        return False
+    return not clashing[some] and clashing[with_member(some, i)]
+
+
 def struck_at_once(case, clashing, some):
-    """The rules that the whole set strikes: it doesn't clash by itself, but with each of them."""
-    if clashing[some]:
-        return 0
-    struck = 0
-    for i, lighter in enumerate(case.outweighed):
-        if not has_member(some, i) and some & lighter == 0 and clashing[with_member(some, i)]:
-            struck = with_member(struck, i)
-    return struck
+    """The rules that a set strikes with all of itself."""
+    return places_held([goes_against(case, clashing, some, i) for i in range(len(case.rules))])
+
+
+def strikers_of(case, follows, i):
+    """The least sets that strike a rule with all of themselves, rising."""
+    clashing = clash_table(case, follows)
+    strikers = []
+    for some in range(len(clashing)):
+        # What lies within a set is the lesser number, so it has been found by now.
+        if goes_against(case, clashing, some, i) and not any([is_within(other, some) for other in strikers]):
+            strikers.append(some)
+    return strikers
 
 
 def strike_table(case, follows):
